@@ -1,0 +1,1 @@
+"""Claims over a few letters, taken apart into parts that share none."""
