@@ -10,8 +10,7 @@ CANNOT_BE = -33
 
 BEGIN = 0
 
-# How many numbers stand behind each call's own. Those that have no step yet are
-# here too: ahead of a begin they are answered, and so must be read past.
+# How many numbers stand behind each call's own.
 WIDTHS = (2, 1, 1, 1, 1, 0, 0, 1, 0, 2, 0, 0, 1, 1, 1, 1, 1, 1, 1, 1, 0, 0)
 
 
@@ -104,6 +103,16 @@ def touches(m, claim, part):
         if has(part, letter) and depends_on(m, claim, letter):
             return True
     return False
+
+
+def touched_parts(m, held, q):
+    """The parts of what is held that q touches."""
+    return [part for part in parts_of(m, held) if touches(m, q, part)]
+
+
+def follows_of(claim, q):
+    """Whether q is so in each world in which the claim is."""
+    return claim & q == claim
 
 
 def revised(m, held, q):
@@ -209,6 +218,89 @@ def call_lone(now, given):
     return [len(found)] + found
 
 
+def call_free(now, given):
+    found = [letter for letter in range(now.m) if not depends_on(now.m, now.held, letter)]
+    return [len(found)] + found
+
+
+def call_touched(now, given):
+    q = given[0]
+    if q > every_world(now.m):
+        return [NOT_RIGHT]
+    found = touched_parts(now.m, now.held, q)
+    return [len(found)] + found
+
+
+def call_would(now, given):
+    q = given[0]
+    if q > every_world(now.m):
+        return [NOT_RIGHT]
+    if q == 0:
+        return [CANNOT_BE]
+    return [revised(now.m, now.held, q)]
+
+
+def call_partsof(now, given):
+    q = given[0]
+    if q > every_world(now.m):
+        return [NOT_RIGHT]
+    if now.held & q == 0:
+        return [CANNOT_BE]
+    found = parts_of(now.m, now.held & q)
+    return [len(found)] + found
+
+
+def call_kept(now, given):
+    q = given[0]
+    if q > every_world(now.m):
+        return [NOT_RIGHT]
+    if q == 0:
+        return [CANNOT_BE]
+    behind = revised(now.m, now.held, q)
+    # A part that q touches can be kept too: it counts if q itself says as much of it.
+    said = [says_of(now.m, now.held, part) for part in parts_of(now.m, now.held)]
+    return [len([claim for claim in said if follows_of(behind, claim)])]
+
+
+def call_keep(now, given):
+    s = given[0]
+    if s > every_letter(now.m):
+        return [NOT_RIGHT]
+    return [says_of(now.m, now.held, s)]
+
+
+def call_says(now, given):
+    s = given[0]
+    if s > every_letter(now.m):
+        return [NOT_RIGHT]
+    return [1 if says_of(now.m, now.held, s) != every_world(now.m) else 0]
+
+
+def call_follows(now, given):
+    q = given[0]
+    if q > every_world(now.m):
+        return [NOT_RIGHT]
+    return [1 if follows_of(now.held, q) else 0]
+
+
+def call_by(now, given):
+    q = given[0]
+    if q > every_world(now.m):
+        return [NOT_RIGHT]
+    if not follows_of(now.held, q):
+        return [CANNOT_BE]
+    found = touched_parts(now.m, now.held, q)
+    return [len(found)] + found
+
+
+def call_look(now, given):
+    return [now.held]
+
+
+def call_state(now, given):
+    return [now.m, len(parts_of(now.m, now.held))]
+
+
 # A call's number is its place here.
 STEPS = (
     call_begin,
@@ -222,6 +314,17 @@ STEPS = (
     call_ways,
     call_same,
     call_lone,
+    call_free,
+    call_touched,
+    call_would,
+    call_partsof,
+    call_kept,
+    call_keep,
+    call_says,
+    call_follows,
+    call_by,
+    call_look,
+    call_state,
 )
 
 

@@ -97,6 +97,30 @@ class Form(unittest.TestCase):
             if isinstance(node.value, str):
                 self.assertNotIn("%", node.value)
 
+    def test_the_top_of_each_file(self):
+        for path, text in sources():
+            names = []
+            for node in ast.parse(text).body:
+                self.assertIsInstance(node, (ast.Expr, ast.Assign, ast.FunctionDef, ast.ClassDef))
+                if isinstance(node, ast.Assign):
+                    names.append(node.targets[0].id)
+                    self.assertIsInstance(node.value, (ast.Constant, ast.UnaryOp, ast.Tuple))
+                elif isinstance(node, ast.Expr):
+                    self.assertIsInstance(node.value, ast.Constant)
+                else:
+                    names.append(node.name)
+            self.assertEqual(len(names), len(set(names)))
+            for node in nodes(ast.Name):
+                if isinstance(node.ctx, ast.Store) and node.col_offset > 0:
+                    self.assertNotIn(node.id, names)
+
+    def test_comprehensions_and_sets(self):
+        for node in nodes(ast.ListComp):
+            self.assertEqual(len(node.generators), 1)
+            self.assertLessEqual(len(node.generators[0].ifs), 1)
+        for node in nodes(ast.Name):
+            self.assertNotIn(node.id, ("set", "frozenset"))
+
     def test_loops_and_assignments(self):
         for node in nodes((ast.For, ast.While)):
             self.assertEqual(node.orelse, [])

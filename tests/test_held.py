@@ -2,9 +2,7 @@
 
 import unittest
 
-from tests.helper import TOP, last, letters_of, run
-
-GREATEST = {1: 3, 2: 15, 3: 255, 4: 65535}
+from tests.helper import GREATEST, TOP, last, letters_of, run
 
 
 def held_behind(*calls):
